@@ -1,0 +1,1 @@
+"""Eightlots: twenty-four lamps, and all that eight of them tell."""

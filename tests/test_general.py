@@ -1,0 +1,237 @@
+"""The general rules [1], [2], [3] for all functions at once, and the interface [24]."""
+
+import ast
+import copy
+import importlib
+import inspect
+import pathlib
+import unittest
+
+from tests.helper import EIGHTS, LAMPS, WORDS, Case, deep_lists, mendings_of, same
+
+FOLDER = pathlib.Path(__file__).resolve().parent.parent / "eightlots"
+INTERFACE = {
+    "signs": """sign_sum(signs) sign_product(one, other) sign_quotient(one, other) is_word(thing) is_shift(thing)
+        all_words() word_number(word) word_at(number) word_by(places, signs) words_with(pairs)
+        unlike_places(one, other) nearest_words(row) shifted(shift, row) shift_behind(one, other)
+        shift_back(shift) is_true_shift(shift) word_led_out(shift) is_word_led_out(shift, thing)""",
+    "board": """lamp_at(column, line) column_of(lamp) line_of(lamp) lot_sum(lots) column_lamps(lot, column)
+        column_signs(lot) parities(lot) column_ways(sign, parity) lots_with(row, parity) drawn(lot)
+        read_drawn(strings) board_shuffle(shift, row) board_parts(shuffle)""",
+    "rightlots": """is_right(lot) heads() base_lots() right_at(number) right_number(lot) rights_of(many)""",
+    "eights": """all_eights() is_eight(thing) eight_number(eight) eight_at(number) eight_of(lot)
+        eights_with(lot, other) how_many_with(lot, other) shared_lamps(one, near) counts(lot) fullest(lot)
+        is_met_evenly(lot) odd_eight(lot) is_odd_eight(lot, thing)""",
+    "mending": """how_far(lot) is_hard(lot) mendings(lot) mending(lot) is_mending(lot, thing) nearest(lot)
+        mending_with(lot, lamp) mending_fours(lot) rest_of(lot) same_rest(one, other) rests(many)
+        filled(lot, gaps) is_filled(lot, gaps, thing) fill_bar(lot, gaps) is_fill_bar(lot, gaps, thing)""",
+    "fours": """is_fours(thing) fours_of(lot) many_fours() fours_by_number(number) number_of_fours(fours)
+        lot_with(fours, lamp) in_one(fours, lamp, mate) eights_of_fours(fours) fours_in(eight)
+        shared(fours, lot) shared_table(one, other) meeting(one, other) refined(one, other)""",
+}
+ORDER = ["errors"] + list(INTERFACE)
+LIBRARY = {"heapq", "math", "itertools", "collections"}
+# What has a clock, chance, or a way to files and the world outside.
+OUTSIDE = {"open", "input", "print", "eval", "exec", "compile", "globals", "locals", "vars", "id", "hash", "breakpoint"}
+
+LIFT = ((1, 4, 2, 3, 0, 5), (1, 1, 3, 2, 1, 1), False)
+BENT = ((1, 4, 2, 3, 0, 5), (1, 1, 3, 2, 1, 2), True)
+ROW = (0, 3, 3, 1, 2, 2)
+LOT = (0, 2, 7, 8, 9, 10, 11, 17, 20)
+HARD = (3, 7, 8, 9, 14, 20)
+FIVE = (1, 2, 4, 8, 16)
+EIGHT = EIGHTS[300]
+ONE = mendings_of((0, 5, 11, 18))
+OTHER = mendings_of((5, 6, 11, 20))
+MOVED = LAMPS[4:8] + LAMPS[:4] + LAMPS[12:16] + LAMPS[8:12] + LAMPS[20:] + LAMPS[16:20]
+
+# Calls of every function of the interface, also ones that raise.
+CALLS = {
+    "sign_sum": [((1, 2, 3, 3),), ((),)], "sign_product": [(2, 3)], "sign_quotient": [(1, 3), (1, 0)],
+    "is_word": [(WORDS[5],), ([1, 1, 1, 1, 0, 0],)], "is_shift": [(LIFT,), (BENT,), ([],)], "all_words": [()],
+    "word_number": [(WORDS[9],)], "word_at": [(17,), (64,)],
+    "word_by": [((0, 2, 5), (3, 1, 2)), ((0, 2, 2), (3, 1, 2))],
+    "words_with": [(((1, 2), (3, 0)),), ((),)], "unlike_places": [(ROW, WORDS[9])],
+    "nearest_words": [(ROW,), (WORDS[3],)], "shifted": [(LIFT, ROW), (BENT, WORDS[7])],
+    "shift_behind": [(LIFT, BENT), (BENT, LIFT)], "shift_back": [(LIFT,), (BENT,)],
+    "is_true_shift": [(LIFT,), (BENT,)], "word_led_out": [(LIFT,), (BENT,)],
+    "is_word_led_out": [(LIFT, WORDS[2]), (BENT, WORDS[2]), (BENT, [0, 0])],
+    "lamp_at": [(3, 2)], "column_of": [(17,), (24,)], "line_of": [(17,), (-1,)],
+    "lot_sum": [((LOT, HARD, FIVE),), ((),)], "column_lamps": [(LOT, 2)], "column_signs": [(LOT,)],
+    "parities": [(LOT,)], "column_ways": [(2, 1)], "lots_with": [(ROW, 1)], "drawn": [(LOT,)],
+    "read_drawn": [(("#.#..#", "..#.#.", "#.#...", ".##..."),), (("#.#..#", "x"),)],
+    "board_shuffle": [(LIFT, ROW), (BENT, ROW)], "board_parts": [(MOVED,), (LAMPS[1:] + (0,),)],
+    "is_right": [(EIGHT,), (LOT,)], "heads": [()], "base_lots": [()], "right_at": [(769,), (4096,)],
+    "right_number": [(EIGHT,), (LOT,)], "rights_of": [(8,), (7,)],
+    "all_eights": [()], "is_eight": [(EIGHT,), (list(EIGHT),)], "eight_number": [(EIGHT,)],
+    "eight_at": [(300,), (759,)], "eight_of": [(FIVE,), (LOT,)], "eights_with": [((0, 5, 9), (1, 2, 3))],
+    "how_many_with": [((0, 5, 9), (1, 2, 3))], "shared_lamps": [(EIGHT, EIGHTS[2])], "counts": [(LOT,)],
+    "fullest": [(LOT,)], "is_met_evenly": [(EIGHT,), (LOT,)], "odd_eight": [(LOT,), (EIGHT,)],
+    "is_odd_eight": [(LOT, EIGHT), (LOT, [[]])],
+    "how_far": [(HARD,), (FIVE,)], "is_hard": [(HARD,), (FIVE,)], "mendings": [(HARD,), (FIVE,)],
+    "mending": [(HARD,), (FIVE,)], "is_mending": [(HARD, (3, 4, 12, 23)), (HARD, [3, 4, 12, 23])],
+    "nearest": [(HARD,), (FIVE,)], "mending_with": [(HARD, 21), (FIVE, 5), (FIVE, 24)],
+    "mending_fours": [(HARD,), (FIVE,)], "rest_of": [(HARD,), (FIVE,)], "same_rest": [(FIVE, (3, 12, 20))],
+    "rests": [(2,), (5,)], "filled": [((4, 5, 6), (7, 20, 21, 22, 23)), (FIVE, (0, 5, 10)), (HARD, LAMPS)],
+    "is_filled": [((4, 5, 6), (7, 20, 21, 22, 23), (4, 5, 6, 7, 20, 21, 22, 23)), (FIVE, (), [()])],
+    "fill_bar": [(FIVE, (0, 5, 10)), ((), ())],
+    "is_fill_bar": [(FIVE, (0, 5, 10), (4, 6, 8, 9, 12, 15, 16, 18)), (FIVE, (), [()])],
+    "is_fours": [(ONE,), (list(ONE),)], "fours_of": [((0, 5, 11, 18),), (FIVE,)], "many_fours": [()],
+    "fours_by_number": [(700,), (-1,)], "number_of_fours": [(ONE,)], "lot_with": [(ONE, 13), (ONE, 24)],
+    "in_one": [(ONE, 8, 21), (ONE, 8, -1), (ONE, 24, -1)], "eights_of_fours": [(ONE,)], "fours_in": [(EIGHT,)],
+    "shared": [(ONE, LOT)], "shared_table": [(ONE, OTHER)], "meeting": [(ONE, OTHER)], "refined": [(ONE, OTHER)],
+}
+LISTS = """all_words words_with nearest_words column_ways lots_with rights_of all_eights eights_with fullest mendings
+    nearest rests fours_in""".split()
+
+
+def all_functions():
+    """Triples (module, name, parameters) of the interface."""
+    found = []
+    for module, text in INTERFACE.items():
+        for part in text.replace(")", ")|").split("|"):
+            if part.strip():
+                name, parameters = part.strip().rstrip(")").split("(")
+                found.append((module, name, [own.strip() for own in parameters.split(",") if own.strip()]))
+    return found
+
+
+def outcome(function, arguments, named):
+    """What a call gives: what it returns, or its error with the values that it keeps."""
+    try:
+        return ("returned", function(*arguments, **named))
+    except (LookupError, ValueError) as error:
+        return (type(error).__module__, type(error).__name__, vars(error))
+
+
+def all_calls():
+    """Triples (function, parameters, arguments), for all of CALLS."""
+    for module, name, parameters in all_functions():
+        function = getattr(importlib.import_module("eightlots." + module), name)
+        for arguments in CALLS[name]:
+            yield function, parameters, arguments
+
+
+def has_list(value):
+    """Whether a list stands in value."""
+    if isinstance(value, (tuple, dict)):
+        return any(has_list(own) for own in (value.values() if isinstance(value, dict) else value))
+    return isinstance(value, list)
+
+
+class Interface(Case):
+
+    def test_names_and_parameters(self):
+        for module, name, parameters in all_functions():
+            function = getattr(importlib.import_module("eightlots." + module), name)
+            self.assertEqual(list(inspect.signature(function).parameters), parameters, name)
+            self.assertEqual(function.__module__, "eightlots." + module)
+
+    def test_each_is_defined_in_its_file(self):
+        for module, name, _ in all_functions():
+            tree = ast.parse((FOLDER / f"{module}.py").read_text())
+            self.assertIn(name, [own.name for own in tree.body if isinstance(own, ast.FunctionDef)])
+
+    def test_each_is_called_here(self):
+        self.assertEqual(sorted(CALLS), sorted(name for _, name, _ in all_functions()))
+
+    def test_a_file_draws_from_those_ahead_alone(self):
+        drawn = {}
+        for path in FOLDER.glob("*.py"):
+            tree = ast.parse(path.read_text())
+            self.assertFalse([own for own in ast.walk(tree) if isinstance(own, ast.Import)], path)
+            drawn[path.stem] = [own.module for own in ast.walk(tree) if isinstance(own, ast.ImportFrom)]
+        for name in ORDER:
+            left, seen = [name], set()
+            while left:
+                for module in drawn[left.pop()]:
+                    own = module.split(".")[-1]
+                    if module.startswith("eightlots.") and own not in seen:
+                        seen.add(own)
+                        left.append(own)
+            self.assertFalse(seen & set(ORDER[ORDER.index(name):]), name)
+
+    def test_no_clock_no_chance_no_files(self):
+        for path in FOLDER.glob("*.py"):
+            for own in ast.walk(ast.parse(path.read_text())):
+                if isinstance(own, ast.ImportFrom):
+                    self.assertTrue(own.module.startswith("eightlots.") or own.module in LIBRARY, path)
+                    self.assertEqual(own.level, 0)
+                if isinstance(own, ast.Name):
+                    self.assertNotIn(own.id, OUTSIDE, path)
+                    self.assertFalse(own.id.startswith("__"), path)
+
+    def test_the_folder_has_the_package_alone(self):
+        for path in FOLDER.iterdir():
+            if path.name != "__pycache__":
+                self.assertTrue(path.is_file() and path.suffix == ".py", path)
+
+
+class General(Case):
+
+    def test_by_names_and_again(self):
+        for function, parameters, arguments in all_calls():
+            first = outcome(function, arguments, {})
+            self.assertIn(first[0], ("returned", "eightlots.errors"))
+            self.assert_same(outcome(function, (), dict(zip(parameters, arguments))), first, function)
+            self.assert_same(outcome(function, arguments, {}), first, function)
+
+    def test_lists_for_tuples(self):
+        for function, parameters, arguments in all_calls():
+            first = outcome(function, arguments, {})
+            listed = [own if name == "thing" else deep_lists(own) for name, own in zip(parameters, arguments)]
+            self.assert_same(outcome(function, listed, {}), first, function)
+            for place, name in enumerate(parameters):
+                mixed = list(arguments)
+                if isinstance(mixed[place], tuple) and name != "thing":
+                    mixed[place] = list(mixed[place])
+                self.assert_same(outcome(function, mixed, {}), first, function)
+
+    def test_arguments_are_unchanged(self):
+        for function, parameters, arguments in all_calls():
+            listed = [copy.deepcopy(own) if name == "thing" else deep_lists(own)
+                      for name, own in zip(parameters, arguments)]
+            kept = copy.deepcopy(listed)
+            outcome(function, listed, {})
+            self.assert_same(listed, kept, function)
+
+    def test_what_is_returned_is_made_of_tuples(self):
+        for function, parameters, arguments in all_calls():
+            for own in (arguments, [deep_lists(own) for own in arguments]):
+                if "thing" in parameters:
+                    continue
+                found = outcome(function, own, {})
+                if found[0] == "returned" and isinstance(found[1], list):
+                    self.assertIn(function.__name__, LISTS)
+                    self.assertFalse(any(has_list(part) for part in found[1]), function)
+                else:
+                    self.assertFalse(has_list(found), function)
+                    self.assertFalse(found[0] == "returned" and function.__name__ in LISTS, function)
+
+    def test_a_returned_list_is_new_and_the_callers(self):
+        for function, _, arguments in all_calls():
+            if function.__name__ in LISTS:
+                found = outcome(function, arguments, {})
+                if found[0] == "returned":
+                    before = copy.deepcopy(found[1])
+                    found[1].reverse()
+                    found[1].append("more")
+                    self.assertTrue(same(function(*arguments), before), function)
+                    found[1].clear()
+                    self.assertTrue(same(function(*arguments), before), function)
+
+    def test_a_list_handed_in_and_changed_behind(self):
+        for function, parameters, arguments in all_calls():
+            if "thing" in parameters:
+                continue
+            listed = [deep_lists(own) for own in arguments]
+            found = outcome(function, listed, {})
+            before = copy.deepcopy(found)
+            for own in listed:
+                if isinstance(own, list):
+                    own.clear()
+            self.assert_same(found, before, function)
+
+
+if __name__ == "__main__":
+    unittest.main()
