@@ -134,7 +134,7 @@ def nested(thing, depth):
     return thing
 
 
-STRANGE = (None, True, False, 0, 1, -1, 24, 10 ** 40, -10 ** 40, "", "0", "word", (), [], (()), ((),), [()], ([],),
+STRANGE = (None, True, False, 0, 1, -1, 24, 10 ** 40, -10 ** 40, "", "0", "word", (), [], ((),), [()], ([],), (3, 3),
            (None,), (True,), ("",), ("012345",), (0, "a"), ("a", 0), (0, None), nested((), 11), nested(0, 12),
            [[[[[[[[[[[0]]]]]]]]]]], (0, (1, (2, (3, (4, (5,)))))), (True, False), (0, 1, 2, 3, 4, 5, 6, True),
            tuple("abcdefgh"), (None,) * 3, (None,) * 6, (None,) * 8, ("x",) * 6, ((),) * 6, ([],) * 6, ((0,),) * 6)
@@ -142,14 +142,15 @@ STRANGE = (None, True, False, 0, 1, -1, 24, 10 ** 40, -10 ** 40, "", "0", "word"
 
 def spoiled(good):
     """Many things that are nearly good: each part taken out, doubled, exchanged for another kind."""
-    found = [list(good), deep_lists(good), (good,), [good], good + (0,), good + (None,), good + good, good[::-1]]
+    found = [list(good), deep_lists(good), (good,), [good], good + (0,), good + (None,), good + good, good[::-1],
+             good[1::-1] + good[2:], good[:-2] + good[:-3:-1], (0, 0) + good, good + (23, 23)]
     for place, own in enumerate(good):
         ahead, behind = good[:place], good[place + 1:]
         found.append(ahead + behind)
-        found.append(ahead + (own, own) + behind)
-        others = [None, True, False, "", "1", str(own), (), [], (own,), [own], -1, 24, 10 ** 40, 0, 1, 2, 3]
+        found += [ahead + (own, own) + behind, ahead + (own, own, own) + behind]
+        others = [None, True, False, "", "1", str(own), (), [], (own,), [own], -1, 24, 10 ** 40, 0, 1, 2, 3, 4, 5, 6]
         if isinstance(own, tuple):
-            others += [own for own in spoiled(own)]
+            others += spoiled(own)
         found += [ahead + (other,) + behind for other in others]
     return found
 

@@ -82,6 +82,9 @@ class All(Case):
         self.assertIs(fours.is_fours(((0, 1, 2), (3, 4, 5, 6, 7)) + columns[2:]), False)
         self.assertIs(fours.is_fours((columns[0],) + columns[:5]), False)
         self.assertIs(fours.is_fours((columns[0], columns[1]) + columns[1:5]), False)
+        self.assertIs(fours.is_fours(columns[1:] + columns[5:]), False)
+        self.assertIs(fours.is_fours(((), (), (), LAMPS[:8], LAMPS[8:16], LAMPS[16:])), False)
+        self.assertIs(fours.is_fours(((),) * 5 + (LAMPS,)), False)
 
 
 class Parts(Case):
