@@ -1,10 +1,10 @@
-"""What several files need: numbers, LAMPS and LOTS, and LOTS as masks.
+"""What several files need: numbers, LAMPS, LOTS and MAPS, what is handed in for them, and LOTS as masks.
 
 A mask is an integer with a bit for each LAMP of a LOT, the greatest one for LAMP 0: so each
 hexadecimal digit is a column, and LOTS of one size stand in the order of their masks, reversed.
 """
 
-from eightlots.errors import NoLamp, NoNumber
+from eightlots.errors import NoLamp, NoNumber, Unfit
 
 MANY_LAMPS = 24
 ALL_LAMPS = 0xffffff
@@ -27,6 +27,55 @@ def is_lot(thing):
     if not all([is_number_below(lamp, MANY_LAMPS) for lamp in thing]):
         return False
     return all([thing[k - 1] < thing[k] for k in range(1, len(thing))])
+
+
+def are_unlike_lamps(thing, many):
+    """Whether thing is a tuple of so many LAMPS, no LAMP twice."""
+    if not isinstance(thing, tuple) or len(thing) != many:
+        return False
+    return all([is_number_below(lamp, MANY_LAMPS) for lamp in thing]) and len(set(thing)) == many
+
+
+def is_map(thing):
+    """Whether thing is a MAP."""
+    if not isinstance(thing, tuple):
+        return False
+    if not all([isinstance(pair, tuple) and len(pair) == 2 for pair in thing]):
+        return False
+    goals = tuple([pair[1] for pair in thing])
+    return is_lot(tuple([pair[0] for pair in thing])) and are_unlike_lamps(goals, len(goals))
+
+
+def is_same(thing, value):
+    """Whether thing is value, at any depth: True and False are no numbers, lists no tuples."""
+    if isinstance(value, tuple):
+        if not isinstance(thing, tuple) or len(thing) != len(value):
+            return False
+        return all([is_same(own, part) for own, part in zip(thing, value)])
+    return is_number(thing) == is_number(value) and thing == value
+
+
+def settled(value):
+    """value with a tuple for each list in it, at any depth."""
+    if isinstance(value, (list, tuple)):
+        return tuple([settled(own) for own in value])
+    return value
+
+
+def fit_lot(value):
+    """value, handed in for a LOT, made of tuples."""
+    lot = settled(value)
+    if not is_lot(lot):
+        raise Unfit()
+    return lot
+
+
+def fit_map(value):
+    """value, handed in for a MAP, made of tuples."""
+    ties = settled(value)
+    if not is_map(ties):
+        raise Unfit()
+    return ties
 
 
 def need_lamp(lamp):

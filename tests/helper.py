@@ -120,6 +120,129 @@ def some_lots(seed, many):
     return lots
 
 
+def kind_by_rule(lot):
+    """The KIND of a LOT."""
+    return (len(lot), counts_of(lot))
+
+
+@functools.lru_cache(maxsize=None)
+def lots_of_all_kinds():
+    """One LOT of each KIND, found LAMP by LAMP from ()."""
+    found = {}
+    latest = [()]
+    while latest:
+        wider = {}
+        for lot in latest:
+            found[kind_by_rule(lot)] = lot
+            for lamp in LAMPS:
+                if lamp not in lot:
+                    more = tuple(sorted(lot + (lamp,)))
+                    wider.setdefault(kind_by_rule(more), more)
+        latest = list(wider.values())
+    return tuple(found.values())
+
+
+EIGHT_BITS_SET = frozenset(EIGHT_BITS)
+LIFT = tuple(lamp ^ 1 if lamp < 16 else lamp for lamp in LAMPS)
+SPIN = tuple(lamp - lamp % 4 + (0, 2, 3, 1)[lamp % 4] for lamp in LAMPS)
+SWAP = (1, 0) + LAMPS[2:]
+# Two keeping SHUFFLES that the document shows, in [12] and in [14].
+TURNED = (1, 0, 2, 3, 4, 5, 7, 6, 8, 9, 11, 10, 13, 12, 14, 15, 22, 23, 21, 20, 19, 18, 16, 17)
+MIXED = (6, 18, 5, 22, 7, 14, 0, 10, 12, 19, 20, 15, 8, 11, 16, 23, 2, 21, 1, 17, 4, 9, 3, 13)
+
+
+def keeps_by_rule(shuffle):
+    """Whether a SHUFFLE leads each EIGHT to an EIGHT."""
+    goals = [1 << goal for goal in shuffle]
+    return all(sum(goals[lamp] for lamp in eight) in EIGHT_BITS_SET for eight in EIGHTS)
+
+
+def done_behind(shuffle, other):
+    """The SHUFFLE that does first other, then shuffle."""
+    return tuple(shuffle[other[lamp]] for lamp in LAMPS)
+
+
+def led_by(shuffle, lot):
+    """The LOT to which a SHUFFLE leads a LOT."""
+    return tuple(sorted(shuffle[lamp] for lamp in lot))
+
+
+def some_keeping(seed, many):
+    """Keeping SHUFFLES of all kinds: known ones, behind one another in many ways."""
+    source = random.Random(seed)
+    found = [LAMPS, LIFT, SPIN, TURNED, MIXED]
+    now = MIXED
+    while len(found) < many:
+        for _ in range(12):
+            now = done_behind(source.choice((LIFT, SPIN, TURNED, MIXED)), now)
+        found.append(now)
+    return found[:many]
+
+
+def some_shuffles(seed, many):
+    """SHUFFLES, keeping ones, ones that are nearly so, and any others."""
+    source = random.Random(seed)
+    found = [SWAP, LAMPS[::-1], LAMPS[1:] + (0,)] + some_keeping(seed, many // 3 + 5)
+    for own in list(found)[3:]:
+        lamps = list(own)
+        one, other = source.sample(LAMPS, 2)
+        lamps[one], lamps[other] = lamps[other], lamps[one]
+        found.append(tuple(lamps))
+    while len(found) < many:
+        found.append(tuple(source.sample(LAMPS, 24)))
+    return found
+
+
+@functools.lru_cache(maxsize=None)
+def eights_by_five():
+    """A dict: for each five LAMPS, ascending, the bits of the EIGHT that has them."""
+    return {five: bits(eight) for eight in EIGHTS for five in itertools.combinations(eight, 5)}
+
+
+def narrowed(places, goals, lamp):
+    """What is left of places, for each LAMP the bits of its goals, by the EIGHTS with lamp and four others."""
+    places = list(places)
+    # Eight of them do: what is left in the end is asked as a whole.
+    others = [own for own in goals if own != lamp][:8]
+    for four in itertools.combinations(others, 4):
+        five = four + (lamp,)
+        near = eights_by_five()[tuple(sorted(five))]
+        far = eights_by_five()[tuple(sorted(goals[own] for own in five))]
+        for own in LAMPS:
+            places[own] &= far if near >> own & 1 else ~far
+    return places
+
+
+def keeping_with(ties, goals=None, places=None):
+    """All keeping SHUFFLES that carry ties on, ascending, by going through all LAMPS and all their goals."""
+    if goals is None:
+        goals, places = {}, [(1 << 24) - 1] * 24
+        for lamp, goal in ties:
+            goals[lamp] = goal
+            places = [own & ~(1 << goal) for own in places]
+            places[lamp] = 1 << goal
+            places = narrowed(places, goals, lamp)
+        if any(places[lamp] != 1 << goal for lamp, goal in ties):
+            return
+    if all(own and own & (own - 1) == 0 for own in places):
+        shuffle = tuple(own.bit_length() - 1 for own in places)
+        if len(set(shuffle)) == 24 and keeps_by_rule(shuffle):
+            yield shuffle
+        return
+    left = [lamp for lamp in LAMPS if lamp not in goals]
+    if not left or 0 in places:
+        return
+    lamp = left[0]
+    for goal in lot_from(places[lamp]):
+        wider = dict(goals)
+        wider[lamp] = goal
+        fewer = [own & ~(1 << goal) for own in places]
+        fewer[lamp] = 1 << goal
+        fewer = narrowed(fewer, wider, lamp)
+        if all(fewer[own] == 1 << wider[own] for own in wider):
+            yield from keeping_with(ties, wider, fewer)
+
+
 def deep_lists(thing):
     """The same with a list for each tuple, at any depth."""
     if isinstance(thing, (tuple, list)):
