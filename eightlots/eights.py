@@ -66,13 +66,17 @@ def shared_lamps(one, near):
     return lot_of(mask_of(one) & mask_of(near))
 
 
-def counts(lot):
-    """The COUNTS of lot."""
-    mask = mask_of(lot)
+def counts_by(eights, mask):
+    """The COUNTS of the LOT of a mask, by the masks of all EIGHTS."""
     found = [0] * (SIZE + 1)
-    for eight in eight_masks():
+    for eight in eights:
         found[size_of(eight & mask)] += 1
     return tuple(found)
+
+
+def counts(lot):
+    """The COUNTS of lot."""
+    return counts_by(eight_masks(), mask_of(lot))
 
 
 def fullest(lot):

@@ -5,7 +5,8 @@ import unittest
 
 from tests.helper import Case
 
-MODULES = ("errors", "signs", "board", "rightlots", "eights", "mending", "fours")
+MODULES = ("errors", "signs", "board", "rightlots", "eights", "mending", "fours", "threes", "shuffles", "fives",
+           "kinds", "dozens", "cards", "longs")
 
 # [4]
 SIGNS = r"""
@@ -138,6 +139,164 @@ raises NoLamp(24)
 raises NoNumber(-1)
 """
 
+# [10]
+THREES = r"""
+>>> eight, next_one = (0, 2, 3, 5, 11, 15, 18, 22), (9, 10, 13, 14, 16, 19, 20, 23)
+>>> three, one = three_of(next_one, eight), fours_of((0, 5, 11, 18))
+>>> three
+((0, 2, 3, 5, 11, 15, 18, 22), (1, 4, 6, 7, 8, 12, 17, 21), (9, 10, 13, 14, 16, 19, 20, 23))
+>>> threes_with(eight)[0] == three, beside(eight)[0], beside(eight)[-1] == next_one, eight_with(three, 7) == three[1]
+(True, (1, 4, 6, 7, 8, 12, 17, 21), True, True)
+>>> number_of_three(three), three_by_number(1000)[0], three_by_number(many_threes() - 1)[0][0]
+(1260, (0, 1, 8, 11, 13, 15, 22, 23), 0)
+>>> far = threes_of_fours(one)[0]
+>>> far[:2], three_table(three, far), three in threes_of_fours(one)
+(((0, 1, 5, 7, 8, 11, 17, 18), (2, 3, 4, 6, 12, 15, 21, 22)), ((4, 4, 0), (4, 4, 0), (0, 0, 8)), True)
+>>> [own[0] for own in fours_of_three(three)][:3], [own[0] for own in fours_of_both(three, far)]
+([(0, 2, 3, 5), (0, 2, 11, 22), (0, 2, 15, 18)], [(0, 5, 11, 18)])
+>>> is_three(three), is_three(three[::-1]), is_three(three[:2]), is_three((eight, eight, eight))
+(True, False, False, False)
+>>> three_of(eight, far[0])
+raises Unfit()
+>>> eight_with(three, -1)
+raises NoLamp(-1)
+>>> three_by_number(-1)
+raises NoNumber(-1)
+"""
+
+# [11]
+SHUFFLES = r"""
+>>> lift = tuple([n ^ 1 if n < 16 else n for n in range(24)])
+>>> spin = tuple([n - n % 4 + (0, 2, 3, 1)[n % 4] for n in range(24)])
+>>> swap = (1, 0) + tuple(range(2, 24))
+>>> led_lot(spin, (1, 6, 23)), behind(lift, spin)[:4], behind(spin, lift)[:4], shuffle_back(spin)[:4], powered(spin, -10 ** 20 - 1)[:4]
+((2, 7, 21), (1, 3, 2, 0), (2, 0, 1, 3), (0, 3, 1, 2), (0, 2, 3, 1))
+>>> rounds(behind(spin, lift))[:3], times_home(behind(spin, lift)), times_home(behind(swap, spin))
+(((0, 2, 1), (3,), (4, 6, 5)), 3, 12)
+>>> [is_keeping(own) for own in (lift, spin, swap)], right_part(swap), word_shuffle((1, 1, 1, 1, 0, 0)) == lift
+([True, True, False], 1, True)
+>>> [is_led_out(swap, own) for own in ((0, 2, 3, 4, 8, 13, 19, 22), (0, 1, 2, 3, 4, 5, 6, 7), (0, 2), led_out(swap))]
+[True, False, False, True]
+>>> by_steps((lift, spin), (0, 1)) == behind(spin, lift), by_steps((lift, spin), (1, -1, -2))[:4], steps_back((0, 1, -2))
+(True, (3, 2, 1, 0), (1, -2, -1))
+>>> reached((lift, spin), 0), reached((), 5), [steps_to((lift, spin), 0, own) for own in (0, 1, 2, 3)]
+((0, 1, 2, 3), (5,), [(), (-1,), (-1, 1), (-1, -2)])
+>>> steps_to((lift, spin), 0, 4)
+raises NoWay()
+>>> led_out(spin)
+raises NoPaper()
+"""
+
+# [12]
+FIVES = r"""
+>>> still = ((0, 0), (1, 1), (2, 2), (3, 3), (4, 4))
+>>> next_places(still, 5), next_places(still, 8) == tuple(range(8, 24)), told_ties(still + ((5, 5),)) == still + ((5, 5), (6, 6), (7, 7))
+((5, 6, 7), True, True)
+>>> carried_on(((0, 1), (1, 0)))
+(1, 0, 2, 3, 4, 5, 7, 6, 8, 9, 11, 10, 13, 12, 14, 15, 22, 23, 21, 20, 19, 18, 16, 17)
+>>> carried_on(((0, 23), (5, 2)))[:6], can_carry(((0, 1), (1, 0)) + still[2:] + ((5, 5), (6, 6), (7, 7))), can_carry(still + ((5, 8),))
+((23, 0, 1, 3, 20, 2), False, False)
+>>> is_bar_for(still + ((5, 8),), bar_for(still + ((5, 8),))), many_carried(still) == len(sevens_from((0, 5, 9, 14, 23)))
+(True, True)
+>>> five_to_five((0, 5, 9, 14, 23), (3, 2, 1, 0, 4))[14], is_seven((0, 1, 2, 3, 4, 8, 7))
+(0, False)
+>>> shuffle_at(0) == tuple(range(24)), shuffle_at(1)[5:10], shuffle_number(shuffle_at(100000)), shuffle_at(100000)[:8]
+(True, (5, 6, 7, 9, 8), 100000, (0, 1, 6, 23, 5, 10, 21, 8))
+>>> carried_on(still + ((5, 8),))
+raises NoWay()
+>>> next_places(still, 24)
+raises NoLamp(lamp=24)
+"""
+
+# [13]
+KINDS = r"""
+>>> one, other = (2, 3, 8, 11, 13, 17, 20), (0, 1, 5, 10, 12, 19, 22)
+>>> are_like(one, other), is_led_to(one, other, led_to(one, other)), case_of(one, other)[0], is_led_to(one, other, tuple(range(24)))
+(True, True, 'led', False)
+>>> alike_lamps(one)
+((0, 1, 4, 5, 6, 7, 9, 10, 12, 14, 16, 18, 19, 22, 23), (2, 3, 8, 11, 13, 20), (15, 21), (17,))
+>>> alike_lamps((0, 1, 2, 3, 4, 5)), [own[1] for own in with_one_turned((0, 1, 2, 3, 4))]
+(((0, 1, 2, 3, 4, 5), (6, 7), (8, 9, 10, 11, 12, 13, 14, 15, 16, 17, 18, 19, 20, 21, 22, 23)), [(0, 1, 2, 3, 4), (8, 9, 10, 11, 12, 13, 14, 15, 16, 17, 18, 19, 20, 21, 22, 23), (5, 6, 7)])
+>>> flat, bent = (0, 1, 2, 3, 4, 5), (0, 1, 2, 3, 4, 8)
+>>> are_like(flat, bent), unlike_paper(flat, bent) == (kind_of(flat), kind_of(bent)), case_of(flat, bent)[0], is_unlike_paper(flat, bent, (kind_of(bent), kind_of(flat)))
+(False, True, 'unlike', False)
+>>> how_many_like(bent) * how_many_keep(bent) == how_many_shuffles(), how_many_like(()), how_many_like((7,))
+(True, 1, 24)
+>>> keeps_and_leads(one, 2, 20)[2], led_with(one, other, ((17, 1),))[17]
+(20, 1)
+>>> led_to(flat, bent)
+raises NoWay()
+>>> keeps_and_leads(one, 17, 2)
+raises NoWay()
+"""
+
+# [14]
+DOZENS = r"""
+>>> dozen, other = (0, 1, 3, 4, 5, 7, 8, 9, 10, 15, 17, 21), (6, 7, 9, 10, 12, 14, 18, 19, 20, 21, 22, 23)
+>>> is_dozen(dozen), is_dozen(list(dozen)), is_dozen(dozen[1:]), other_dozen(dozen)
+(True, False, False, (2, 6, 11, 12, 13, 14, 16, 18, 19, 20, 22, 23))
+>>> six = six_of_five(dozen, (10, 9, 17, 21, 4))
+>>> six, pair_of_six(dozen, six), eight_of_six(dozen, six), sixes_of_pair(dozen, (19, 20))
+((4, 7, 9, 10, 17, 21), (19, 20), (4, 7, 9, 10, 17, 19, 20, 21), [(0, 1, 3, 5, 8, 15), (4, 7, 9, 10, 17, 21)])
+>>> sixes(dozen)[:2], is_six(dozen, (0, 1, 3, 4, 5, 8)), sixes_with(dozen, six)
+([(0, 1, 3, 4, 5, 7), (0, 1, 3, 4, 8, 17)], False, [(4, 7, 9, 10, 17, 21)])
+>>> ties = led_dozen(dozen, other, (10, 9, 17, 21, 4), (20, 19, 21, 9, 7))
+>>> ties
+((0, 6), (1, 18), (3, 22), (4, 7), (5, 14), (7, 10), (8, 12), (9, 19), (10, 20), (15, 23), (17, 21), (21, 9))
+>>> dozen_shuffle(dozen, other, ties)
+(6, 18, 5, 22, 7, 14, 0, 10, 12, 19, 20, 15, 8, 11, 16, 23, 2, 21, 1, 17, 4, 9, 3, 13)
+>>> bent = ties[:10] + ((17, 9), (21, 21))
+>>> [is_even_map(dozen, other, own) for own in (ties, bent, ties[1:])], is_lost_six(dozen, other, bent, (0, 1, 3, 4, 8, 17))
+([True, False, False], True)
+>>> dozen_shuffle(dozen, other, bent)
+raises NoWay()
+"""
+
+# [15]
+CARDS = r"""
+>>> is_standing((0, 1, 2, 3, 4, 11)), is_standing((0, 1, 2, 3, 4, 10)), is_standing([0, 1, 2, 3, 4, 11])
+(True, False, False)
+>>> moves((0, 1, 2, 3, 7, 9)), good_moves((0, 1, 3, 5, 8, 9)), is_lost((0, 1, 3, 5, 8, 9)), moved((0, 1, 3, 5, 8, 9), 9, 4)
+([(0, 1, 2, 3, 6, 9), (0, 1, 2, 3, 7, 8)], [(0, 1, 3, 4, 5, 8), (0, 1, 3, 5, 7, 9)], False, (0, 1, 3, 4, 5, 8))
+>>> lost_with(24), lost_with(22), lost_of_five((0, 1, 2, 4, 7)), is_lost((0, 1, 3, 5, 7, 9))
+([(0, 1, 2, 4, 7, 10), (0, 2, 3, 5, 6, 8)], [], (0, 1, 2, 4, 7, 10), True)
+>>> lost_paper((0, 1, 2, 3, 4, 11)), is_lost_paper((0, 1, 3, 5, 7, 9), lost_paper((0, 1, 3, 5, 7, 9))), is_lost_paper((0, 1, 3, 5, 7, 9), ())
+((), True, False)
+>>> dozen = (0, 1, 3, 4, 5, 7, 8, 9, 10, 15, 17, 21)
+>>> numbers = numbering(dozen, (0, 1, 3, 4, 5))
+>>> numbers, is_numbering(dozen, numbers), is_numbering(dozen, dozen)
+((0, 1, 3, 4, 5, 15, 17, 21, 10, 8, 9, 7), True, False)
+>>> lamps_of_cards(numbers, (0, 1, 3, 5, 7, 9)), cards_of_lamps(numbers, (4, 7, 9, 10, 17, 21))
+((0, 1, 4, 8, 15, 21), (3, 6, 7, 8, 10, 11))
+>>> lost_paper((0, 1, 3, 5, 8, 9))
+raises NoPaper()
+>>> moved((0, 1, 2, 3, 7, 9), 9, 4)
+raises Unfit()
+"""
+
+# [16]
+LONGS = r"""
+>>> pair, eight, odd = (4, -4) + (0,) * 22, (2,) * 8 + (0,) * 16, (-3,) + (1,) * 23
+>>> [is_long(own) for own in (pair, eight, odd, (0,) * 24, (1,) * 24, list(pair))], odd_lot(eight), odd_lot(odd)
+([True, True, True, True, False, False], (0, 1, 2, 3, 4, 5, 6, 7), ())
+>>> rule_broken((1,) * 24), rule_broken((2,) * 4 + (0,) * 20), rule_broken((2, 1) + (0,) * 22)
+(('sum', 4), ('lot', (0, 1, 2, 3)), ('mixed', 1))
+>>> is_rule_broken((1,) * 24, ("sum", 4)), is_rule_broken(pair, ("sum", 0)), long_length(odd), long_length(long_sum(pair, odd))
+(True, False, 4, 4)
+>>> long_product(pair, eight), long_product(pair, odd), long_product(eight, odd), long_contrary(pair)[:3], long_sum(eight, odd)[:9]
+(0, -2, 1, (-4, 4, 0), (-1, 3, 3, 3, 3, 3, 3, 3, 1))
+>>> signs_turned(odd, (0, 1, 2, 3, 4, 5, 6, 7))[:9], signs_turned(pair, (0, 1, 2, 3, 4, 5, 6, 7)) == long_contrary(pair)
+((3, -1, -1, -1, -1, -1, -1, -1, 1), True)
+>>> [shape_of(own) for own in (pair, eight, odd, long_sum(eight, eight))], half_long(long_sum(odd, odd)) == odd
+(['pair', 'eight', 'odd', None], True)
+>>> short_number(pair), short_at(0)[:3], short_at(short_number(odd)) == odd, short_number(eight) < short_number(odd)
+(2, (-4, -4, 0), True, True)
+>>> half_long(eight)
+raises NoWay()
+>>> signs_turned(odd, (0, 1))
+raises Unfit()
+"""
+
 
 def names_of_package():
     """All names of the modules, as the examples use them."""
@@ -174,7 +333,8 @@ class Examples(Case):
                 self.run_line(line[4:], None if below.startswith(">>> ") else below)
 
     def test_all_sections_in_order(self):
-        for text in (SIGNS, BOARD, RIGHTLOTS, EIGHTS, MENDING, FOURS):
+        for text in (SIGNS, BOARD, RIGHTLOTS, EIGHTS, MENDING, FOURS, THREES, SHUFFLES, FIVES, KINDS, DOZENS, CARDS,
+                     LONGS):
             self.run_many = 0
             self.run_section(text)
             self.assertEqual(self.run_many, text.count(">>> "))

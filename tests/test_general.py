@@ -7,7 +7,8 @@ import inspect
 import pathlib
 import unittest
 
-from tests.helper import EIGHTS, LAMPS, WORDS, Case, deep_lists, mendings_of, same
+from tests.helper import EIGHTS, LAMPS, MIXED, SPIN, SWAP, WORDS, Case, deep_lists, mendings_of, same
+from tests.helper import LIFT as LIFT_SHUFFLE
 
 FOLDER = pathlib.Path(__file__).resolve().parent.parent / "eightlots"
 INTERFACE = {
@@ -28,6 +29,33 @@ INTERFACE = {
     "fours": """is_fours(thing) fours_of(lot) many_fours() fours_by_number(number) number_of_fours(fours)
         lot_with(fours, lamp) in_one(fours, lamp, mate) eights_of_fours(fours) fours_in(eight)
         shared(fours, lot) shared_table(one, other) meeting(one, other) refined(one, other)""",
+    "threes": """is_three(thing) three_of(one, other) beside(eight) threes_with(eight) many_threes()
+        three_by_number(number) number_of_three(three) eight_with(three, lamp) fours_of_three(three)
+        threes_of_fours(fours) three_table(three, far) fours_of_both(three, far)""",
+    "shuffles": """is_shuffle(thing) led_lot(shuffle, lot) behind(shuffle, other) shuffle_back(shuffle)
+        powered(shuffle, times) rounds(shuffle) times_home(shuffle) is_keeping(shuffle) led_out(shuffle)
+        is_led_out(shuffle, thing) right_part(shuffle) word_shuffle(word) by_steps(shuffles, steps)
+        steps_back(steps) reached(shuffles, lamp) steps_to(shuffles, lamp, goal)""",
+    "fives": """is_seven(thing) sevens_from(lamps) by_seven(seven, far) five_to_five(lamps, goals)
+        all_five_to_five(lamps, goals) can_carry(ties) carried_on(ties) many_carried(ties) all_carried(ties)
+        next_places(ties, lamp) told_ties(ties) bar_for(ties) is_bar_for(ties, thing) how_many_shuffles()
+        shuffle_number(shuffle) shuffle_at(number) chain_step(lamp, goal) in_steps(shuffle)""",
+    "kinds": """kind_of(lot) are_like(one, other) led_to(one, other) is_led_to(one, other, thing)
+        unlike_paper(one, other) is_unlike_paper(one, other, thing) case_of(one, other)
+        is_case_of(one, other, thing) led_with(one, other, ties) how_many_keep(lot) how_many_like(lot)
+        alike_lamps(lot) keeps_and_leads(lot, lamp, goal) is_keeps_and_leads(lot, lamp, goal, thing)
+        with_one_turned(lot)""",
+    "dozens": """is_dozen(thing) other_dozen(dozen) sixes(dozen) is_six(dozen, thing) sixes_with(dozen, lot)
+        six_of_five(dozen, five) eight_of_six(dozen, six) pair_of_six(dozen, six) sixes_of_pair(dozen, pair)
+        led_dozen(dozen, other, five, goals) is_even_map(dozen, other, thing) lost_six(dozen, other, ties)
+        is_lost_six(dozen, other, ties, thing) dozen_shuffle(dozen, other, ties)""",
+    "cards": """is_standing(thing) moved(standing, card, lesser) moves(standing) is_lost(standing)
+        good_moves(standing) lost_with(total) lost_of_five(cards) lost_paper(standing)
+        is_lost_paper(standing, thing) numbering(dozen, five) is_numbering(dozen, thing)
+        lamps_of_cards(numbers, standing) cards_of_lamps(numbers, lot)""",
+    "longs": """is_long(thing) odd_lot(row) rule_broken(row) is_rule_broken(row, thing) long_length(long)
+        long_product(one, other) long_sum(one, other) long_contrary(long) signs_turned(long, lot)
+        half_long(long) shape_of(long) short_number(long) short_at(number)""",
 }
 ORDER = ["errors"] + list(INTERFACE)
 LIBRARY = {"heapq", "math", "itertools", "collections"}
@@ -43,6 +71,20 @@ FIVE = (1, 2, 4, 8, 16)
 EIGHT = EIGHTS[300]
 ONE = mendings_of((0, 5, 11, 18))
 OTHER = mendings_of((5, 6, 11, 20))
+THREE = (EIGHTS[0], tuple(range(8, 16)), tuple(range(16, 24)))
+FAR_THREE = ((0, 1, 5, 7, 8, 11, 17, 18), (2, 3, 4, 6, 12, 15, 21, 22), (9, 10, 13, 14, 16, 19, 20, 23))
+SEVEN, FAR_SEVEN = (0, 1, 2, 3, 4, 5, 8), (3, 2, 1, 0, 4, 7, 22)
+STILL = ((0, 0), (1, 1), (2, 2), (3, 3), (4, 4))
+BARRED = STILL + ((5, 8),)
+SEVENTH, BEND = (2, 3, 8, 11, 13, 17, 20), (0, 1, 5, 10, 12, 19, 22)
+DOZEN = (0, 1, 3, 4, 5, 7, 8, 9, 10, 15, 17, 21)
+OTHER_DOZEN = (6, 7, 9, 10, 12, 14, 18, 19, 20, 21, 22, 23)
+EVEN = ((0, 6), (1, 18), (3, 22), (4, 7), (5, 14), (7, 10), (8, 12), (9, 19), (10, 20), (15, 23), (17, 21), (21, 9))
+UNEVEN = EVEN[:10] + ((17, 9), (21, 21))
+SIX = (4, 7, 9, 10, 17, 21)
+NUMBERS = (0, 1, 3, 4, 5, 15, 17, 21, 10, 8, 9, 7)
+LOST, WON = (0, 1, 3, 5, 7, 9), (0, 1, 3, 5, 8, 9)
+PAIR_LONG, EIGHT_LONG, ODD_LONG = (4, -4) + (0,) * 22, (2,) * 8 + (0,) * 16, (-3,) + (1,) * 23
 MOVED = LAMPS[4:8] + LAMPS[:4] + LAMPS[12:16] + LAMPS[8:12] + LAMPS[20:] + LAMPS[16:20]
 
 # Calls of every function of the interface, also ones that raise.
@@ -80,9 +122,61 @@ CALLS = {
     "fours_by_number": [(700,), (-1,)], "number_of_fours": [(ONE,)], "lot_with": [(ONE, 13), (ONE, 24)],
     "in_one": [(ONE, 8, 21), (ONE, 8, -1), (ONE, 24, -1)], "eights_of_fours": [(ONE,)], "fours_in": [(EIGHT,)],
     "shared": [(ONE, LOT)], "shared_table": [(ONE, OTHER)], "meeting": [(ONE, OTHER)], "refined": [(ONE, OTHER)],
+    "is_three": [(THREE,), (list(THREE),)], "three_of": [(THREE[2], THREE[0]), (EIGHT, EIGHT)], "beside": [(EIGHT,)],
+    "threes_with": [(EIGHT,)], "many_threes": [()], "three_by_number": [(1000,), (-1,)], "number_of_three": [(THREE,)],
+    "eight_with": [(THREE, 9), (THREE, 24)], "fours_of_three": [(THREE,)], "threes_of_fours": [(ONE,)],
+    "three_table": [(THREE, FAR_THREE)], "fours_of_both": [(THREE, FAR_THREE), (THREE, THREE)],
+    "is_shuffle": [(MOVED,), (list(MOVED),)], "led_lot": [(MIXED, LOT)], "behind": [(MIXED, SPIN)],
+    "shuffle_back": [(MIXED,)], "powered": [(MIXED, 5), (MIXED, -10 ** 30)], "rounds": [(MIXED,)],
+    "times_home": [(MIXED,)], "is_keeping": [(MIXED,), (SWAP,)], "led_out": [(SWAP,), (SPIN,)],
+    "is_led_out": [(SWAP, (0, 2, 3, 4, 8, 13, 19, 22)), (SWAP, [0, 2])], "right_part": [(SWAP,), (SPIN,)],
+    "word_shuffle": [(WORDS[9],)], "by_steps": [((LIFT_SHUFFLE, SPIN), (1, -1, -2)), ((SPIN,), (1,)), ((), ())],
+    "steps_back": [((0, 1, -2),)], "reached": [((LIFT_SHUFFLE, SPIN), 0), ((), 24)],
+    "steps_to": [((LIFT_SHUFFLE, SPIN), 0, 3), ((LIFT_SHUFFLE, SPIN), 0, 4), ((), 3, 24)],
+    "is_seven": [(SEVEN,), (list(SEVEN),)], "sevens_from": [((4, 0, 9, 23, 11),), ((0, 1),)],
+    "by_seven": [(SEVEN, FAR_SEVEN), (SEVEN, SEVEN[1:])], "five_to_five": [((0, 5, 9, 14, 23), (3, 2, 1, 0, 4))],
+    "all_five_to_five": [((0, 5, 9, 14, 23), (3, 2, 1, 0, 4)), ((0, 5, 9, 14, 24), (3, 2, 1, 0, 4))],
+    "can_carry": [(STILL,), (BARRED,), (((0, 0), (1, 0)),)], "carried_on": [(STILL[:3],), (BARRED,)],
+    "many_carried": [(STILL,), (BARRED,), ((),)], "all_carried": [(STILL,), (STILL[1:],), (BARRED,)],
+    "next_places": [(STILL, 5), (STILL, 24), (STILL[1:], 7), ((0, 1), 24)], "told_ties": [(STILL + ((5, 5),),), (BARRED,)],
+    "bar_for": [(BARRED,), (STILL,)], "is_bar_for": [(BARRED, ((LAMPS, 5),)), (BARRED, [()]), ((1,), ())],
+    "how_many_shuffles": [()], "shuffle_number": [(MIXED,), (SWAP,)], "shuffle_at": [(100000,), (-1,)],
+    "chain_step": [(3, 17), (3, 2), (24, 2)], "in_steps": [(MIXED,), (SWAP,)],
+    "kind_of": [(LOT,), ((1, 0),)], "are_like": [(SEVENTH, BEND), (SEVENTH, LOT), ((1, 0), LOT)],
+    "led_to": [(SEVENTH, BEND), (SEVENTH, LOT)], "is_led_to": [(SEVENTH, SEVENTH, LAMPS), (SEVENTH, BEND, [()])],
+    "unlike_paper": [(SEVENTH, LOT), (SEVENTH, BEND)], "is_unlike_paper": [(SEVENTH, LOT, ((7, ()), (9, ())))],
+    "case_of": [(SEVENTH, BEND), (SEVENTH, LOT)], "is_case_of": [(SEVENTH, SEVENTH, ("led", LAMPS)), (LOT, LOT, [])],
+    "led_with": [(SEVENTH, BEND, ((17, 1),)), (SEVENTH, BEND, ((2, 1),)), (SEVENTH, BEND, (3,))],
+    "how_many_keep": [(SEVENTH,), ((24,),)], "how_many_like": [(LOT,), ((24,),)], "alike_lamps": [(SEVENTH,), ((24,),)],
+    "keeps_and_leads": [(SEVENTH, 2, 20), (SEVENTH, 17, 2), (SEVENTH, 24, 2)],
+    "is_keeps_and_leads": [(SEVENTH, 2, 2, LAMPS), (SEVENTH, 2, 20, [LAMPS])], "with_one_turned": [(FIVE,), ((24,),)],
+    "is_dozen": [(DOZEN,), (list(DOZEN),)], "other_dozen": [(DOZEN,), (LOT,)], "sixes": [(DOZEN,), (LOT,)],
+    "is_six": [(DOZEN, SIX), (DOZEN, list(SIX)), (LOT, SIX)], "sixes_with": [(DOZEN, (4, 9)), (DOZEN, (2,))],
+    "six_of_five": [(DOZEN, (10, 9, 17, 21, 4)), (DOZEN, (10, 9, 17, 21, 2))], "eight_of_six": [(DOZEN, SIX), (DOZEN, LOT)],
+    "pair_of_six": [(DOZEN, SIX), (DOZEN, LOT)], "sixes_of_pair": [(DOZEN, (19, 20)), (DOZEN, (0, 1))],
+    "led_dozen": [(DOZEN, OTHER_DOZEN, (10, 9, 17, 21, 4), (20, 19, 21, 9, 7)), (DOZEN, DOZEN, DOZEN[:5], DOZEN)],
+    "is_even_map": [(DOZEN, OTHER_DOZEN, EVEN), (DOZEN, OTHER_DOZEN, [list(own) for own in EVEN])],
+    "lost_six": [(DOZEN, OTHER_DOZEN, UNEVEN), (DOZEN, OTHER_DOZEN, EVEN), (DOZEN, DOZEN, EVEN)],
+    "is_lost_six": [(DOZEN, OTHER_DOZEN, UNEVEN, (0, 1, 3, 4, 8, 17)), (DOZEN, OTHER_DOZEN, UNEVEN, [SIX])],
+    "dozen_shuffle": [(DOZEN, OTHER_DOZEN, EVEN), (DOZEN, OTHER_DOZEN, UNEVEN), (DOZEN, DOZEN, EVEN)],
+    "is_standing": [(LOST,), (list(LOST),)], "moved": [(WON, 9, 4), (WON, 9, 8)], "moves": [(WON,), (LOT,)],
+    "is_lost": [(LOST,), (WON,)], "good_moves": [(LOST,), (WON,)], "lost_with": [(24,), (22,), (None,)],
+    "lost_of_five": [((0, 1, 2, 4, 7),), ((0, 1, 2, 4),)], "lost_paper": [(LOST,), (WON,), (LOT,)],
+    "is_lost_paper": [((0, 1, 2, 3, 4, 11), ()), (LOST, [()]), (LOT, ())],
+    "numbering": [(DOZEN, (0, 1, 3, 4, 5)), (DOZEN, (0, 1, 2, 3, 4))], "is_numbering": [(DOZEN, NUMBERS), (DOZEN, list(NUMBERS))],
+    "lamps_of_cards": [(NUMBERS, LOST), (NUMBERS, LOT), (DOZEN, LOST)],
+    "cards_of_lamps": [(NUMBERS, SIX), (NUMBERS, (2,)), (NUMBERS, ())],
+    "is_long": [(ODD_LONG,), (list(ODD_LONG),)], "odd_lot": [(EIGHT_LONG,), ((1,) + ODD_LONG[1:],), ((2,) + ODD_LONG[1:],)],
+    "rule_broken": [((1,) * 24,), ((2, 1) + (0,) * 22,), ((2,) * 4 + (0,) * 20,), (ODD_LONG,), ((),)],
+    "is_rule_broken": [((1,) * 24, ("sum", 4)), (ODD_LONG, ["sum", 4])], "long_length": [(ODD_LONG,), ((1,) * 24,)],
+    "long_product": [(PAIR_LONG, ODD_LONG), (PAIR_LONG, (1,) * 24)], "long_sum": [(PAIR_LONG, ODD_LONG), ((), ODD_LONG)],
+    "long_contrary": [(PAIR_LONG,), ((1,) * 24,)], "signs_turned": [(ODD_LONG, EIGHT), (ODD_LONG, LOT)],
+    "half_long": [((8, -8) + (0,) * 22,), (EIGHT_LONG,)], "shape_of": [(PAIR_LONG,), ((8,) + (0,) * 23,)],
+    "short_number": [(ODD_LONG,), ((8,) + (0,) * 23,)], "short_at": [(2,), (50000,), (196559,), (196560,)],
 }
 LISTS = """all_words words_with nearest_words column_ways lots_with rights_of all_eights eights_with fullest mendings
-    nearest rests fours_in""".split()
+    nearest rests fours_in threes_with fours_of_three threes_of_fours fours_of_both sevens_from all_five_to_five
+    all_carried sixes sixes_with sixes_of_pair moves good_moves lost_with""".split()
 
 
 def all_functions():
