@@ -11,6 +11,12 @@ import unittest
 EIGHT_EXAMPLE = (0, 7, 9, 10, 11, 15, 17, 22)
 LAMPS = tuple(range(24))
 POWERS = (1, 2, 3)
+NOUGHT = (0,) * 24
+PAIR, EIGHT, ODD = (4, -4) + (0,) * 22, (2,) * 8 + (0,) * 16, (-3,) + (1,) * 23
+# What is no row of 24 numbers, and rows that are no LONGS.
+NO_ROWS = (None, 3, True, "row", (), (0,), NOUGHT[1:], NOUGHT + (0,), (None,) + NOUGHT[1:], (False,) + NOUGHT[1:],
+           ("0",) + NOUGHT[1:], ((0,),) + NOUGHT[1:], [NOUGHT], NOUGHT[1:] + (True,), "0" * 24)
+BROKEN = ((1,) * 24, (2,) * 4 + (0,) * 20, (2, 1) + (0,) * 22, (4,) + (0,) * 23, (1,) * 23 + (0,), (2,) + (0,) * 23)
 
 
 def product_of(one, other):
@@ -321,3 +327,113 @@ def is_plain_lot(thing):
 def is_plain_right(thing):
     """Whether thing is a right LOT."""
     return is_plain_lot(thing) and thing in RIGHT_SET
+
+
+def odd_lot_of(row):
+    """The odd LOT of a row, all even or all odd."""
+    low = row[0] % 2
+    return tuple(lamp for lamp in LAMPS if (row[lamp] - low) // 2 % 2 == 1)
+
+
+def broken_by_rule(row):
+    """What a row breaks, None if it is a LONG, by [16]."""
+    for place, number in enumerate(row):
+        if number % 2 != row[0] % 2:
+            return ("mixed", place)
+    if odd_lot_of(row) not in RIGHT_SET:
+        return ("lot", odd_lot_of(row))
+    rest = (sum(row) - 4 * (row[0] % 2)) % 8
+    return ("sum", rest) if rest else None
+
+
+def is_row(thing):
+    """Whether thing is a tuple of 24 numbers."""
+    return type(thing) is tuple and len(thing) == 24 and all(is_plain_number(own) for own in thing)
+
+
+def is_long_by_rule(thing):
+    """Whether thing is a LONG, by [3]."""
+    return is_row(thing) and broken_by_rule(thing) is None
+
+
+def length_of(row):
+    """The length of a LONG."""
+    return sum(own * own for own in row) // 8
+
+
+def turned(row, lot):
+    """row with the other sign at each LAMP of lot."""
+    return tuple(-row[lamp] if lamp in lot else row[lamp] for lamp in LAMPS)
+
+
+def some_longs(seed, many):
+    """LONGS of all kinds, short ones ahead, with numbers to 99 by size."""
+    source = random.Random(seed)
+    found = [NOUGHT, PAIR, EIGHT, ODD, (8,) + NOUGHT[1:], (2,) * 24, (5,) + (1,) * 23, (-99,) + (97,) * 23]
+    while len(found) < many:
+        low = source.choice((0, 1))
+        lot = source.choice(RIGHT)
+        row = [low + 2 * (lamp in lot) + 4 * source.randrange(-24, 24) for lamp in LAMPS]
+        place = source.randrange(24)
+        if (sum(row) - 4 * low) % 8:
+            row[place] += 4
+        found.append(tuple(row))
+    return [own for own in found if is_long_by_rule(own)]
+
+
+def product_by_rule(one, other):
+    """The product of two LONGS."""
+    return sum(own * far for own, far in zip(one, other)) // 8
+
+
+def added(*rows):
+    """The sum of rows, place by place."""
+    return tuple(sum(own) for own in zip(*rows))
+
+
+def times(many, row):
+    """row, each number so many times."""
+    return tuple(many * own for own in row)
+
+
+@functools.lru_cache(maxsize=None)
+def all_short():
+    """All LONGS of length 4, by their shapes."""
+    found = []
+    for one, other in itertools.combinations(LAMPS, 2):
+        for far, near in itertools.product((-4, 4), repeat=2):
+            found.append(tuple(far if lamp == one else near if lamp == other else 0 for lamp in LAMPS))
+    signs = [own for own in itertools.product((-2, 2), repeat=8) if own.count(-2) % 2 == 0]
+    for eight in EIGHTS:
+        for own in signs:
+            row = [0] * 24
+            for lamp, number in zip(eight, own):
+                row[lamp] = number
+            found.append(tuple(row))
+    for lot in RIGHT:
+        row = tuple(-1 if lamp in lot else 1 for lamp in LAMPS)
+        found += [row[:lamp] + (-3 * row[lamp],) + row[lamp + 1:] for lamp in LAMPS]
+    return tuple(found)
+
+
+def some_short(seed, many):
+    """LONGS of length 4, as many of each shape."""
+    source = random.Random(seed)
+    rows = all_short()
+    pairs, eights, odd = rows[:1104], rows[1104:1104 + 128 * 759], rows[1104 + 128 * 759:]
+    found = [PAIR, EIGHT, ODD]
+    while len(found) < many:
+        found.append(source.choice((pairs, eights, odd)[len(found) % 3]))
+    return found
+
+
+def some_of_length(length, seed, many):
+    """LONGS of length 6 or 8: sums of two short ones."""
+    source = random.Random(seed)
+    rows = some_short(seed, 90)
+    found = []
+    while len(found) < many:
+        row = added(*source.sample(rows, 2))
+        if length_of(row) == length:
+            found.append(row)
+    return found

@@ -6,7 +6,7 @@ import unittest
 from tests.helper import Case
 
 MODULES = ("errors", "signs", "board", "rightlots", "eights", "mending", "fours", "threes", "shuffles", "fives",
-           "kinds", "dozens", "cards", "longs")
+           "kinds", "dozens", "cards", "longs", "rests", "longled", "otherwise")
 
 # [4]
 SIGNS = r"""
@@ -297,6 +297,73 @@ raises NoWay()
 raises Unfit()
 """
 
+# [17]
+RESTS = r"""
+>>> near, axis, flat = (4, 4) + (0,) * 22, (8,) + (0,) * 23, (2,) * 8 + (0,) * 16
+>>> alike_by_twice(near, (4, -4) + (0,) * 22), alike_by_twice(near, (-4, -4) + (0,) * 22), half_difference(axis, (0, -8) + (0,) * 22)[:3]
+(False, True, (4, 4, 0))
+>>> parting_rule(near, (4, -4) + (0,) * 22), parting_rule(near, (-3,) + (1,) * 23), parting_rule(flat, (0,) * 24), parting_rule(near, (0,) * 24)
+(('sum', 4), ('half', 0), ('mixed', 8), ('lot', (0, 1)))
+>>> [rest_kind(own) for own in ((0,) * 24, near, axis, (8, 8) + (0,) * 22, (5,) + (1,) * 23)], all_shortest(near) == [(-4, -4) + (0,) * 22, near]
+([0, 4, 8, 0, 6], True)
+>>> is_shortest(axis, (0,) * 23 + (-8,)), is_shortest(near, axis), is_shortest((12, 4) + (0,) * 22, shortest((12, 4) + (0,) * 22))
+(True, False, True)
+>>> frame = frame_of(axis)
+>>> len(frame), frame[0][:2], frame[-1] == axis, is_frame(frame), is_frame(frame[1:]), frame_of((0,) * 5 + (-8,) + (0,) * 18) == frame
+(48, (-8, 0), True, True, False, True)
+>>> frame_products(frame, flat) == flat[::-1], long_by_frame(frame, flat[::-1]) == flat
+(True, True)
+>>> frame_of(near)
+raises NoWay()
+>>> long_by_frame(frame, (1,) * 24)
+raises NoWay()
+"""
+
+# [18]
+LONGLED = r"""
+>>> columns = tuple([(4 * own, 4 * own + 1, 4 * own + 2, 4 * own + 3) for own in range(6)])
+>>> two, odd = (4, 4) + (0,) * 22, (-3,) + (1,) * 23
+>>> turned_over(two, columns, 1)[:6], turned_over(two, columns, 0)[:6], turned_over(odd, columns, 2)[:12]
+((0, 0, 4, 4, 0, 0), (0, 0, -4, -4, 0, 0), (3, -1, -1, -1, 1, 1, 1, 1, -1, -1, -1, -1))
+>>> steps = (("signs", (0, 1, 2, 3, 4, 5, 6, 7)), ("over", columns, 5))
+>>> long_moved(odd, steps)[:8], long_moved(odd, steps)[18:], long_moved(long_moved(odd, steps), moved_back(steps)) == odd
+((-3, 1, 1, 1, -1, -1, -1, -1), (1, 1, -1, -1, -1, -1), True)
+>>> [is_move(own) for own in (steps[0], steps[1], ("over", columns, 6), ("signs", (0, 1)), ["signs", ()])]
+[True, True, False, False, False]
+>>> is_way_between(two, odd, way_between(two, odd)), is_way_between(two, odd, ()), len(way_between(two, odd)) < 15, pair_kind(two, odd)
+(True, False, True, (4, 4, 10))
+>>> signs_between(odd, tuple([-own for own in odd])) == tuple(range(24)), is_triangle(triangle_of(odd)), is_triangle((two, two, two))
+(True, True, False)
+>>> signs_between(two, odd)
+raises NoWay()
+>>> way_between(two, (8,) + (0,) * 23)
+raises Unfit()
+"""
+
+# [19]
+OTHERWISE = r"""
+>>> some = (0, 3, 9, 14)
+>>> lot_worth(some), lot_worth((5, 7, 11, 20, 23)), lot_worth(())
+(2012, 140, 0)
+>>> [is_turn(some, own) for own in ((2, 7, 9), (2, 7), (), (14,), [14], (3, 15))]
+[True, False, False, True, False, False]
+>>> is_winning_turn(some, some), is_winning_turn(some, (14,)), is_winning_turn((5, 7), winning_turn((5, 7)))
+(True, False, True)
+>>> lost_by_number(0), lost_by_number(1), number_of_lost((2, 3, 6, 7, 8, 9, 12, 13))
+((), (0, 1, 2, 3, 4, 5, 6, 7), 5)
+>>> squares = tuple(sorted([own * own % 23 for own in range(1, 12)]))
+>>> is_round_lot(squares + (23,)), is_round_lot(squares), is_round_lot(()), is_round_lot((0, 1, 2, 3, 4, 5, 6, 7))
+(True, False, True, False)
+>>> [is_shuffle_to_board(own, shuffle_to_board(own)) for own in ("game", "round")], is_shuffle_to_board("round", tuple(range(24)))
+([True, True], False)
+>>> winning_turn((0, 1, 2, 3, 4, 5, 6, 7))
+raises NoWay()
+>>> lamp_worth(24)
+raises NoLamp(lamp=24)
+>>> lost_by_number(-1)
+raises NoNumber(number=-1)
+"""
+
 
 def names_of_package():
     """All names of the modules, as the examples use them."""
@@ -334,7 +401,7 @@ class Examples(Case):
 
     def test_all_sections_in_order(self):
         for text in (SIGNS, BOARD, RIGHTLOTS, EIGHTS, MENDING, FOURS, THREES, SHUFFLES, FIVES, KINDS, DOZENS, CARDS,
-                     LONGS):
+                     LONGS, RESTS, LONGLED, OTHERWISE):
             self.run_many = 0
             self.run_section(text)
             self.assertEqual(self.run_many, text.count(">>> "))

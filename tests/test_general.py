@@ -56,6 +56,16 @@ INTERFACE = {
     "longs": """is_long(thing) odd_lot(row) rule_broken(row) is_rule_broken(row, thing) long_length(long)
         long_product(one, other) long_sum(one, other) long_contrary(long) signs_turned(long, lot)
         half_long(long) shape_of(long) short_number(long) short_at(number)""",
+    "rests": """alike_by_twice(one, other) half_difference(one, other) parting_rule(one, other)
+        is_parting_rule(one, other, thing) rest_kind(long) shortest(long) is_shortest(long, thing)
+        all_shortest(long) frame_of(long) is_frame(thing) frame_products(frame, long)
+        long_by_frame(frame, products)""",
+    "longled": """turned_over(long, fours, number) is_move(thing) long_moved(long, row) moved_back(row)
+        way_between(one, other) is_way_between(one, other, thing) signs_between(one, other)
+        pair_kind(one, other) triangle_of(long) is_triangle(thing)""",
+    "otherwise": """lamp_worth(lamp) lot_worth(lot) is_turn(lot, thing) winning_turn(lot)
+        is_winning_turn(lot, thing) lost_by_number(number) number_of_lost(lot) is_round_lot(lot)
+        shuffle_to_board(word) is_shuffle_to_board(word, thing)""",
 }
 ORDER = ["errors"] + list(INTERFACE)
 LIBRARY = {"heapq", "math", "itertools", "collections"}
@@ -85,6 +95,10 @@ SIX = (4, 7, 9, 10, 17, 21)
 NUMBERS = (0, 1, 3, 4, 5, 15, 17, 21, 10, 8, 9, 7)
 LOST, WON = (0, 1, 3, 5, 7, 9), (0, 1, 3, 5, 8, 9)
 PAIR_LONG, EIGHT_LONG, ODD_LONG = (4, -4) + (0,) * 22, (2,) * 8 + (0,) * 16, (-3,) + (1,) * 23
+AXIS = (8,) + (0,) * 23
+FRAME = tuple(tuple(8 * (own == lamp) * sign for own in LAMPS) for sign, lamps in ((-1, LAMPS), (1, LAMPS[::-1])) for lamp in lamps)
+MOVES = (("signs", EIGHTS[0]), ("over", ONE, 5), ("shuffle", MIXED))
+GAME = (0, 3, 9, 14)
 MOVED = LAMPS[4:8] + LAMPS[:4] + LAMPS[12:16] + LAMPS[8:12] + LAMPS[20:] + LAMPS[16:20]
 
 # Calls of every function of the interface, also ones that raise.
@@ -173,10 +187,32 @@ CALLS = {
     "long_contrary": [(PAIR_LONG,), ((1,) * 24,)], "signs_turned": [(ODD_LONG, EIGHT), (ODD_LONG, LOT)],
     "half_long": [((8, -8) + (0,) * 22,), (EIGHT_LONG,)], "shape_of": [(PAIR_LONG,), ((8,) + (0,) * 23,)],
     "short_number": [(ODD_LONG,), ((8,) + (0,) * 23,)], "short_at": [(2,), (50000,), (196559,), (196560,)],
+    "alike_by_twice": [(PAIR_LONG, ODD_LONG), (AXIS, FRAME[0]), (AXIS, (1,) * 24)],
+    "half_difference": [(AXIS, FRAME[5]), (AXIS, ODD_LONG), ((1,) * 24, AXIS)],
+    "parting_rule": [(AXIS, ODD_LONG), (EIGHT_LONG, AXIS), (AXIS, FRAME[3]), (AXIS, ())],
+    "is_parting_rule": [(AXIS, ODD_LONG, ("half", 0)), (AXIS, FRAME[3], [()]), (AXIS, (), None)],
+    "rest_kind": [(AXIS,), (ODD_LONG,), (LOT,)], "shortest": [(FRAME[7],), ((12, 4) + (0,) * 22,), (LOT,)],
+    "is_shortest": [(AXIS, FRAME[3]), (AXIS, list(AXIS)), (LOT, AXIS)], "all_shortest": [(AXIS,), (ODD_LONG,), (LOT,)],
+    "frame_of": [(FRAME[30],), (ODD_LONG,), (LOT,)], "is_frame": [(FRAME,), (list(FRAME),), ([list(own) for own in FRAME],)],
+    "frame_products": [(FRAME, ODD_LONG), (FRAME[1:], ODD_LONG), (FRAME, LOT)],
+    "long_by_frame": [(FRAME, EIGHT_LONG), (FRAME, (1,) * 24), (FRAME, LOT), (FRAME[1:], LOT)],
+    "turned_over": [(ODD_LONG, ONE, 4), (ODD_LONG, ONE, 6), (ODD_LONG, LOT, 0), (LOT, ONE, 0)],
+    "is_move": [(MOVES[1],), (list(MOVES[1]),), (("over", [list(own) for own in ONE], 5),)],
+    "long_moved": [(ODD_LONG, MOVES), (ODD_LONG, ()), (ODD_LONG, MOVES[0]), (LOT, MOVES)],
+    "moved_back": [(MOVES,), ((),), ((MOVES,),)], "way_between": [(PAIR_LONG, ODD_LONG), (EIGHT_LONG, PAIR_LONG), (AXIS, AXIS)],
+    "is_way_between": [(ODD_LONG, ODD_LONG, ()), (AXIS, AXIS, [()]), (AXIS, LOT, ())],
+    "signs_between": [(EIGHT_LONG, (-2,) * 8 + (0,) * 16), (PAIR_LONG, ODD_LONG), (LOT, AXIS)],
+    "pair_kind": [(PAIR_LONG, ODD_LONG), (AXIS, LOT)], "triangle_of": [(PAIR_LONG,), (ODD_LONG,), (AXIS,), (LOT,)],
+    "is_triangle": [((PAIR_LONG, ODD_LONG, AXIS),), ([PAIR_LONG, ODD_LONG, AXIS],)],
+    "lamp_worth": [(13,), (24,)], "lot_worth": [(GAME,), ((24,),)], "is_turn": [(GAME, (2, 9)), (GAME, [14]), ((1, 0), ())],
+    "winning_turn": [(GAME,), (LAMPS[:8],), ((24,),)], "is_winning_turn": [(GAME, GAME), (GAME, list(GAME)), ((1, 0), ())],
+    "lost_by_number": [(5,), (4095,), (4096,)], "number_of_lost": [((2, 3, 6, 7, 8, 9, 12, 13),), (GAME,), ((1, 0),)],
+    "is_round_lot": [(LAMPS,), (GAME,), ((1, 0),)], "shuffle_to_board": [("game",), ("round",), ("board",)],
+    "is_shuffle_to_board": [("game", LAMPS[:16] + LAMPS[:15:-1]), ("round", [LAMPS]), (("game",), LAMPS)],
 }
 LISTS = """all_words words_with nearest_words column_ways lots_with rights_of all_eights eights_with fullest mendings
     nearest rests fours_in threes_with fours_of_three threes_of_fours fours_of_both sevens_from all_five_to_five
-    all_carried sixes sixes_with sixes_of_pair moves good_moves lost_with""".split()
+    all_carried sixes sixes_with sixes_of_pair moves good_moves lost_with all_shortest""".split()
 
 
 def all_functions():

@@ -6,65 +6,8 @@ import unittest
 
 from eightlots import longs
 from eightlots.errors import NoNumber, NoPaper, NoWay, Unfit
-from tests.helper import EIGHTS, LAMPS, RIGHT, RIGHT_SET, STRANGE, Case, is_plain_number, some_lots, spoiled, sum_lots
-
-NOUGHT = (0,) * 24
-PAIR, EIGHT, ODD = (4, -4) + (0,) * 22, (2,) * 8 + (0,) * 16, (-3,) + (1,) * 23
-NO_ROWS = (None, 3, True, "row", (), (0,), NOUGHT[1:], NOUGHT + (0,), (None,) + NOUGHT[1:], (False,) + NOUGHT[1:],
-           ("0",) + NOUGHT[1:], ((0,),) + NOUGHT[1:], [NOUGHT], NOUGHT[1:] + (True,), "0" * 24)
-BROKEN = ((1,) * 24, (2,) * 4 + (0,) * 20, (2, 1) + (0,) * 22, (4,) + (0,) * 23, (1,) * 23 + (0,), (2,) + (0,) * 23)
-
-
-def odd_lot_of(row):
-    """The odd LOT of a row, all even or all odd."""
-    low = row[0] % 2
-    return tuple(lamp for lamp in LAMPS if (row[lamp] - low) // 2 % 2 == 1)
-
-
-def broken_by_rule(row):
-    """What a row breaks, None if it is a LONG, by [16]."""
-    for place, number in enumerate(row):
-        if number % 2 != row[0] % 2:
-            return ("mixed", place)
-    if odd_lot_of(row) not in RIGHT_SET:
-        return ("lot", odd_lot_of(row))
-    rest = (sum(row) - 4 * (row[0] % 2)) % 8
-    return ("sum", rest) if rest else None
-
-
-def is_row(thing):
-    """Whether thing is a tuple of 24 numbers."""
-    return type(thing) is tuple and len(thing) == 24 and all(is_plain_number(own) for own in thing)
-
-
-def is_long_by_rule(thing):
-    """Whether thing is a LONG, by [3]."""
-    return is_row(thing) and broken_by_rule(thing) is None
-
-
-def length_of(row):
-    """The length of a LONG."""
-    return sum(own * own for own in row) // 8
-
-
-def turned(row, lot):
-    """row with the other sign at each LAMP of lot."""
-    return tuple(-row[lamp] if lamp in lot else row[lamp] for lamp in LAMPS)
-
-
-def some_longs(seed, many):
-    """LONGS of all kinds, short ones ahead, with numbers to 99 by size."""
-    source = random.Random(seed)
-    found = [NOUGHT, PAIR, EIGHT, ODD, (8,) + NOUGHT[1:], (2,) * 24, (5,) + (1,) * 23, (-99,) + (97,) * 23]
-    while len(found) < many:
-        low = source.choice((0, 1))
-        lot = source.choice(RIGHT)
-        row = [low + 2 * (lamp in lot) + 4 * source.randrange(-24, 24) for lamp in LAMPS]
-        place = source.randrange(24)
-        if (sum(row) - 4 * low) % 8:
-            row[place] += 4
-        found.append(tuple(row))
-    return [own for own in found if is_long_by_rule(own)]
+from tests.helper import (BROKEN, EIGHT, EIGHTS, LAMPS, NO_ROWS, NOUGHT, ODD, PAIR, RIGHT, STRANGE, Case, broken_by_rule,
+                          is_long_by_rule, length_of, odd_lot_of, some_longs, some_lots, spoiled, sum_lots, turned)
 
 
 def some_rows(seed, many):
