@@ -6,7 +6,8 @@ import unittest
 from tests.helper import Case
 
 MODULES = ("errors", "signs", "board", "rightlots", "eights", "mending", "fours", "threes", "shuffles", "fives",
-           "kinds", "dozens", "cards", "longs", "rests", "longled", "otherwise")
+           "kinds", "dozens", "cards", "longs", "rests", "longled", "otherwise", "toldback", "judge", "texts", "desk")
+ALL_EXAMPLES = 199
 
 # [4]
 SIGNS = r"""
@@ -364,6 +365,86 @@ raises NoLamp(lamp=24)
 raises NoNumber(number=-1)
 """
 
+# [20]
+TOLDBACK = r"""
+>>> heard = ((1, 5, 6, 18), (0, 4, 8, 12, 13, 14, 15, 16, 19, 20))
+>>> fitting(heard), sure_lamps(heard), next_lamp(heard), is_heard(heard), is_heard(((1, 5), (5, 6)))
+([(0, 1, 5, 6, 13, 15, 16, 18), (1, 4, 5, 6, 8, 14, 18, 20)], ((), (12, 19)), 0, True, False)
+>>> heard_of((0, 1, 5, 6, 13, 15, 16, 18), heard[1]) == heard, right_within(heard[1])
+(True, (0, 4, 8, 13, 14, 15, 16, 20))
+>>> told = told_on(heard, 0, True)
+>>> told, fitting(told), next_lamp(told), sure_lamps(told)[0]
+(((0, 1, 5, 6, 18), (4, 8, 12, 13, 14, 15, 16, 19, 20)), [(0, 1, 5, 6, 13, 15, 16, 18)], None, (13, 15, 16))
+>>> sure_lamps(((1, 5), (0, 4)))
+raises NoWay()
+>>> told_on(heard, 1, True)
+raises Unfit()
+>>> right_within((0, 1, 2, 3, 4, 5, 6))
+raises NoPaper()
+"""
+
+# [21]
+JUDGE = r"""
+>>> stay, three_lit, nought = by_steps((), ()), (0, 1, 2), (0,) * 24
+>>> shows(("alike", three_lit, three_lit), stay), is_so(("alike", three_lit, (5, 9, 20))), is_so(("alike", three_lit, (5, 9)))
+(True, True, False)
+>>> shows(("carried", ((3, 3),)), stay), is_so(("carried", ((0, 7), (1, 12), (9, 2)))), shows(("keeping", stay), base_lots())
+(True, True, True)
+>>> swap = (1, 0) + stay[2:]
+>>> is_so(("keeping", swap)), is_right(paper(("keeping", swap))), is_right(led_lot(swap, paper(("keeping", swap))))
+(False, True, False)
+>>> shows(("reach", (swap,), 1, 0), (0,)), shows(("reach", (swap,), 1, 2), (0, 1)), shows(("reach", (swap,), 1, 2), (1,))
+(True, False, None)
+>>> shows(("filled", (0,), ()), stay), paper(("filled", stay, (3,))) == stay
+(False, True)
+>>> shows(("mended", three_lit, 3), three_lit), shows(("mended", three_lit, 2), three_lit), shows(("mended", three_lit, 2), (0, 1))
+(True, False, None)
+>>> shows(("lost", (0, 1, 2, 3, 4, 11)), ()), shows(("lost", (0, 1, 2, 3, 5, 11)), (0, 1, 2, 3, 4, 11))
+(True, False)
+>>> pair_row = (4, 4) + nought[2:]
+>>> shows(("twice", nought, nought), nought), paper(("twice", pair_row, nought))
+(True, ('lot', (0, 1)))
+>>> not_so((("mended", three_lit, 2), ("mended", three_lit, 3))), words_so((("mended", three_lit, 2), ("keeping", stay)))
+((0,), ('keeping',))
+>>> is_claim(("mended", three_lit, 99)), is_claim(("mended", (1, 0), 3)), is_claim(("keeping", stay[:23]))
+(True, False, False)
+>>> is_so(("bold", three_lit))
+raises NoWord(word='bold')
+>>> is_so(("keeping",))
+raises Unfit()
+"""
+
+# [22]
+TEXTS = r"""
+>>> lot_text((0, 5, 10, 11, 17)), read_lot("lot\n *.....\n .*..*.\n ..*...\n ..*..."), lot_text(())
+('lot\n *.....\n .*..*.\n ..*...\n ..*...', (0, 5, 10, 11, 17), 'lot\n ......\n ......\n ......\n ......')
+>>> round_text = "shuffle\n 0 4 8 12 16 20\n 2 6 10 14 18 22\n 3 7 11 15 19 23\n 1 5 9 13 17 21"
+>>> read_shuffle(round_text)[:8], shuffle_text(read_shuffle(round_text)) == round_text
+((0, 2, 3, 1, 4, 6, 7, 5), True)
+>>> long_text((-4, 4) + (0,) * 22), read_long("long\n 4 0 0 0 0 0\n 0 0 0 0 0 4\n 0 0 0 0 0 0\n 0 0 0 0 0 0")[20:]
+('long\n -4 0 0 0 0 0\n 4 0 0 0 0 0\n 0 0 0 0 0 0\n 0 0 0 0 0 0', (0, 4, 0, 0))
+>>> read_lot("lot\n *.....\n .*..*\n ..*...")
+raises BadLine(number=3)
+>>> read_shuffle("shuffle\n 0 4 8 12 16 20\n 2 6 10 4 18 22")
+raises BadLine(number=3)
+>>> read_long("long\n 2 0 0 0 0 0\n 0 0 0 0 0 0\n 0 0 0 0 0 0\n 0 0 0 0 0 0")
+raises Unfit()
+"""
+
+# [23]
+DESK = r"""
+>>> here = session(first_desk(), "turn 0 5 10 11 17 20")[0]
+>>> desk, told = session(here, "right\nmends\nmend\nturn 3\nmends\nmend\nright\nshow\nundo\neight 1 2 6 9 22\nundo\nundo\nundo\nundo")
+>>> told[:2], told[2:7], told[7:]
+(('no', '0 4 18 22; 1 5 19 23; 2 6 16 20; 3 7 17 21; 8 9 11 14; 10 12 13 15'), ('refused NoWay', 'done', '7 17 21', 'done', 'yes'), ('lot\n *....*\n .*...*\n ..*...\n ***...', 'mend', 'done', 'eight', 'turn', 'turn', 'refused NothingDone'))
+>>> session(first_desk(), "lot\n lot\n  *.....\n  .*..*.\n  ..*...\n  ..*...\nright")[1]
+('done', 'no')
+>>> is_request("turn 5 3"), is_request("turn 24"), is_request("eight 1 2 3 4"), is_request("lot\n x"), is_request("mend 1")
+(False, False, False, True, False)
+>>> session(here, "show\nlook")
+raises BadLine(number=2)
+"""
+
 
 def names_of_package():
     """All names of the modules, as the examples use them."""
@@ -400,11 +481,14 @@ class Examples(Case):
                 self.run_line(line[4:], None if below.startswith(">>> ") else below)
 
     def test_all_sections_in_order(self):
+        all_many = 0
         for text in (SIGNS, BOARD, RIGHTLOTS, EIGHTS, MENDING, FOURS, THREES, SHUFFLES, FIVES, KINDS, DOZENS, CARDS,
-                     LONGS, RESTS, LONGLED, OTHERWISE):
+                     LONGS, RESTS, LONGLED, OTHERWISE, TOLDBACK, JUDGE, TEXTS, DESK):
             self.run_many = 0
             self.run_section(text)
             self.assertEqual(self.run_many, text.count(">>> "))
+            all_many += self.run_many
+        self.assertEqual(all_many, ALL_EXAMPLES)
 
 
 if __name__ == "__main__":

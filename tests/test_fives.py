@@ -252,20 +252,21 @@ class Carried(Case):
                 self.assert_raises(NoLamp, {"lamp": lamp}, fives.next_places, ties, lamp)
 
 
-class Bars(Case):
+def is_bar_by_rule(ties, thing):
+    """Whether thing is a BAR of ties."""
+    if type(thing) is not tuple or not all(type(own) is tuple and len(own) == 2 for own in thing):
+        return False
+    if len(ties) < 5 or [repr(own[0]) for own in thing] != [repr(own) for own in all_with(ties[:5])]:
+        return False
+    for shuffle, place in thing:
+        if not is_plain_number(place) or place not in range(len(ties)):
+            return False
+        if shuffle[ties[place][0]] == ties[place][1]:
+            return False
+    return True
 
-    def is_bar_by_rule(self, ties, thing):
-        """Whether thing is a BAR of ties."""
-        if type(thing) is not tuple or not all(type(own) is tuple and len(own) == 2 for own in thing):
-            return False
-        if len(ties) < 5 or [repr(own[0]) for own in thing] != [repr(own) for own in all_with(ties[:5])]:
-            return False
-        for shuffle, place in thing:
-            if not is_plain_number(place) or place not in range(len(ties)):
-                return False
-            if shuffle[ties[place][0]] == ties[place][1]:
-                return False
-        return True
+
+class Bars(Case):
 
     def test_each_map_is_carried_on_or_barred(self):
         for ties in some_maps(142, 100):
@@ -273,7 +274,7 @@ class Bars(Case):
                 self.assert_raises(NoPaper, {}, fives.bar_for, ties)
             else:
                 bar = fives.bar_for(ties)
-                self.assertTrue(self.is_bar_by_rule(ties, bar))
+                self.assertTrue(is_bar_by_rule(ties, bar))
                 self.assertEqual(list(bar), sorted(set(bar)))
                 self.assert_same(fives.bar_for(deep_lists(ties)), bar)
                 self.assertIs(fives.is_bar_for(ties, bar), True)
@@ -295,8 +296,8 @@ class Bars(Case):
                 others += [((shuffle[0] == 1,) + shuffle[1:], place)]
                 things += [bar[:k] + (own,) + bar[k + 1:] for own in others]
             for thing in things:
-                self.assertIs(fives.is_bar_for(ties, thing), self.is_bar_by_rule(ties, thing))
-                self.assertIs(fives.is_bar_for(ties=deep_lists(ties), thing=thing), self.is_bar_by_rule(ties, thing))
+                self.assertIs(fives.is_bar_for(ties, thing), is_bar_by_rule(ties, thing))
+                self.assertIs(fives.is_bar_for(ties=deep_lists(ties), thing=thing), is_bar_by_rule(ties, thing))
 
     def test_truths_are_no_numbers(self):
         ties = STILL + ((5, 8),)

@@ -66,6 +66,14 @@ INTERFACE = {
     "otherwise": """lamp_worth(lamp) lot_worth(lot) is_turn(lot, thing) winning_turn(lot)
         is_winning_turn(lot, thing) lost_by_number(number) number_of_lost(lot) is_round_lot(lot)
         shuffle_to_board(word) is_shuffle_to_board(word, thing)""",
+    "toldback": """is_heard(thing) heard_of(lot, unheard) fitting(heard) sure_lamps(heard) next_lamp(heard)
+        told_on(heard, lamp, burns) right_within(unheard)""",
+    "judge": """is_claim(thing) is_so(claim) paper(claim) is_paper(claim, thing) shows(claim, thing)
+        not_so(claims) words_so(claims)""",
+    "texts": """lot_text(lot) shuffle_text(shuffle) long_text(row) read_lot(text) read_shuffle(text)
+        read_long(text)""",
+    "desk": """first_desk() is_request(thing) requests(text) scene_after(scene, request) said(scene, request)
+        worked(desk, request) session(desk, text)""",
 }
 ORDER = ["errors"] + list(INTERFACE)
 LIBRARY = {"heapq", "math", "itertools", "collections"}
@@ -99,6 +107,18 @@ AXIS = (8,) + (0,) * 23
 FRAME = tuple(tuple(8 * (own == lamp) * sign for own in LAMPS) for sign, lamps in ((-1, LAMPS), (1, LAMPS[::-1])) for lamp in lamps)
 MOVES = (("signs", EIGHTS[0]), ("over", ONE, 5), ("shuffle", MIXED))
 GAME = (0, 3, 9, 14)
+HEARD = ((1, 5, 6, 18), (0, 4, 8, 12, 13, 14, 15, 16, 19, 20))
+CLAIMS = (("alike", SEVENTH, BEND), ("alike", SEVENTH, LOT), ("carried", STILL), ("carried", BARRED), ("keeping", MIXED),
+          ("keeping", SWAP), ("reach", (SPIN, LIFT_SHUFFLE), 0, 3), ("reach", (SWAP,), 1, 2), ("filled", FIVE, LAMPS[8:]),
+          ("filled", FIVE, (0, 5, 10)), ("mended", HARD, 4), ("mended", HARD, 3), ("lost", LOST), ("lost", WON),
+          ("twice", AXIS, FRAME[3]), ("twice", AXIS, ODD_LONG), ("bold", LOT), ("alike", LOT), (), ("reach", (), 24, 0),
+          ("lost", LOT), ("carried", (3,)), ("twice", LOT, AXIS), (3, LOT))
+BOARD = "\n *.....\n .*..*.\n ..*...\n ..*..."
+GOALS = "\n 0 4 8 12 16 20\n 2 6 10 14 18 22\n 3 7 11 15 19 23\n 1 5 9 13 17 21"
+ROWS = "\n 4 0 0 0 0 0\n 0 0 0 0 0 4\n 0 0 0 0 0 0\n 0 0 0 0 0 0"
+LEAD = "lead\n shuffle" + GOALS.replace("\n", "\n ")
+SCENE = (HARD, MIXED)
+WORKED = (SCENE, (("turn", ((), LAMPS)), ("lead", (LOT, LAMPS))), (("home", (EIGHT, SPIN)),))
 MOVED = LAMPS[4:8] + LAMPS[:4] + LAMPS[12:16] + LAMPS[8:12] + LAMPS[20:] + LAMPS[16:20]
 
 # Calls of every function of the interface, also ones that raise.
@@ -209,10 +229,28 @@ CALLS = {
     "lost_by_number": [(5,), (4095,), (4096,)], "number_of_lost": [((2, 3, 6, 7, 8, 9, 12, 13),), (GAME,), ((1, 0),)],
     "is_round_lot": [(LAMPS,), (GAME,), ((1, 0),)], "shuffle_to_board": [("game",), ("round",), ("board",)],
     "is_shuffle_to_board": [("game", LAMPS[:16] + LAMPS[:15:-1]), ("round", [LAMPS]), (("game",), LAMPS)],
+    "is_heard": [(HEARD,), ([LOT, FIVE],)], "heard_of": [(LOT, FIVE), (LAMPS, LAMPS)], "fitting": [(HEARD,), ((FIVE, ()),)],
+    "sure_lamps": [(HEARD,), (((), LAMPS[:16]),), ((FIVE, ()),)], "next_lamp": [(HEARD,), ((EIGHT, ()),), ((FIVE, ()),)],
+    "told_on": [(HEARD, 0, True), (HEARD, 12, False), (HEARD, 1, True), (HEARD, 24, True)],
+    "right_within": [(HEARD[1],), (LAMPS,), (FIVE,)], "is_claim": [(own,) for own in CLAIMS] + [(list(CLAIMS[0]),)],
+    "is_so": [(own,) for own in CLAIMS], "paper": [(own,) for own in CLAIMS],
+    "is_paper": [(own, LAMPS) for own in CLAIMS] + [(CLAIMS[4], [()])],
+    "shows": [(own, LAMPS) for own in CLAIMS] + [(own, [FIVE]) for own in CLAIMS],
+    "not_so": [(CLAIMS[:6],), (CLAIMS[6:12],), (CLAIMS[10:16],), (CLAIMS[12:18],), ((),)],
+    "words_so": [(CLAIMS[:6],), (CLAIMS[6:12],), (CLAIMS[10:16],), (CLAIMS[15:21],), ((),)],
+    "lot_text": [(LOT,), ((),)], "shuffle_text": [(MIXED,)], "long_text": [(ODD_LONG,)],
+    "read_lot": [("lot" + BOARD,), ("lot" + GOALS,), ("",)], "read_shuffle": [("shuffle" + GOALS,), ("shuffle" + ROWS,)],
+    "read_long": [("long" + ROWS,), ("long" + GOALS,), ("long" + ROWS + "\n",), ("long",)],
+    "first_desk": [()], "is_request": [("turn 1 2",), ("turn 2 1",), ("lot\n x",), (["mend"],)],
+    "requests": [("turn 1\nmend\nlot\n x\nshow",), ("",), ("turn 1\n\nmend",), (" x",)],
+    "scene_after": [(SCENE, own) for own in ("turn 1 2", "eight 0 1 2 3 4", "mend", "home", LEAD, "lot\n x", "show", "")],
+    "said": [(SCENE, own) for own in ("show", "led", "right", "mends", "counts", "worth", "like\n lot", "mend", "")],
+    "worked": [(WORKED, own) for own in ("undo", "redo", "mend", "turn 3", "home", LEAD, "show", "lot\n x", "look")],
+    "session": [(WORKED, "undo\nundo\nundo\nredo\nturn 5\nshow\nredo"), (WORKED, "turn 1\nlook"), (WORKED, "")],
 }
 LISTS = """all_words words_with nearest_words column_ways lots_with rights_of all_eights eights_with fullest mendings
     nearest rests fours_in threes_with fours_of_three threes_of_fours fours_of_both sevens_from all_five_to_five
-    all_carried sixes sixes_with sixes_of_pair moves good_moves lost_with all_shortest""".split()
+    all_carried sixes sixes_with sixes_of_pair moves good_moves lost_with all_shortest fitting requests""".split()
 
 
 def all_functions():
